@@ -1,0 +1,55 @@
+"""The interface: each name, with its arguments, is defined in its file."""
+
+import importlib
+import inspect
+import unittest
+
+ROWS = {
+    "webs": """is_web(thing) is_ranges(thing) is_run(ranges,thing) is_way(web,event,thing) arcs_into(web,event)
+        arcs_from(web,event) leads_to(web,event) comes_from(web,event) in_turn(web) with_event(web,event)
+        without_event(web,event) with_arc(web,name,ahead,behind) without_arc(web,name) renamed_arcs(web,pairs)
+        shared_names(one,other) with_range(ranges,name,low,high)""",
+    "times": """times(web,run) time_of(web,run,event) least_time(web,ranges,event) greatest_time(web,ranges,event)
+        time_run(web,ranges,event,number) is_time_run(web,ranges,event,number,thing) how_many_ways(web,event)
+        nth_way(web,event,number) number_of_way(web,event,way) way_length(run,way) longest_ways(web,run,event)
+        slow_run(ranges,way)""",
+    "spreads": """spread(one,event,other,events,run) greatest_spread(one,event,other,events,ranges)
+        least_spread(one,event,other,events,ranges) never_behind(one,event,other,events,ranges,number)
+        late_way(one,event,other,events,ranges,number) late_ways(one,event,other,events,ranges,number)
+        is_late_way(one,event,other,events,ranges,number,thing) spread_run(one,event,other,events,ranges,number)
+        is_spread_run(one,event,other,events,ranges,number,thing)""",
+    "order": """surely_ahead(web,ranges,one,other) order_pairs(web,ranges) open_pairs(web,ranges) classes(web,ranges)
+        steps(web,ranges) can_be_last(web,ranges,events) surely_last(web,ranges,events) is_sure_row(web,ranges,row)
+        order_paper(web,ranges,one,other) is_order_paper(web,ranges,one,other,thing)""",
+    "same": """never_later(one,other,ranges,event) later_span(one,other,ranges,event) later_way(one,other,ranges,event)
+        is_later_way(one,other,ranges,event,thing) alike_at(one,other,ranges,event) alike_events(one,other,ranges)
+        least_unlike(one,other,ranges) are_alike(one,other,ranges) unlike_paper(one,other,ranges,event)
+        is_unlike_paper(one,other,ranges,event,thing) shared_arcs(one,other)""",
+    "edits": """is_edit(thing) edited(web,edits) first_refused(web,edits) edits_back(web,edits) edits_to(one,other)
+        is_felt(web,ranges,edits,some) felt_events(web,ranges,edits) least_felt(web,ranges,edits,some)
+        healed(web,ranges,edits,some)""",
+}
+
+
+class Interface(unittest.TestCase):
+    def test_functions(self):
+        for file, rows in ROWS.items():
+            module = importlib.import_module(f"slowship.{file}")
+            for row in rows.split():
+                name, args = row[:-1].split("(")
+                with self.subTest(row):
+                    function = getattr(module, name)
+                    self.assertTrue(inspect.isfunction(function))
+                    self.assertEqual(function.__module__, f"slowship.{file}")
+                    self.check_arguments(function, args.split(","))
+
+    def check_arguments(self, function, names):
+        found = list(inspect.signature(function).parameters.values())
+        self.assertEqual([one.name for one in found], names)
+        for one in found:
+            self.assertEqual(one.kind, inspect.Parameter.POSITIONAL_OR_KEYWORD)
+            self.assertIs(one.default, inspect.Parameter.empty)
+
+
+if __name__ == "__main__":
+    unittest.main()
