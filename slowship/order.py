@@ -65,7 +65,7 @@ def _has_between(rows, known, one, other):
 def can_be_last(web, ranges, events):
     """The set of those of events that happen last of them in some RUN."""
     web, ranges, events = _checked(web, ranges, events)
-    return tuple([event for event in events if _is_last(web, ranges, event, _without(events, event))])
+    return tuple([event for event in events if _is_last(web, ranges, event, events)])
 
 
 def _checked(web, ranges, events):
@@ -76,13 +76,9 @@ def _checked(web, ranges, events):
     return web, ranges, events
 
 
-def _without(events, event):
-    return tuple([other for other in events if other != event])
-
-
-def _is_last(web, ranges, event, others):
-    """Whether the EVENT happens behind, or with, all others in some RUN."""
-    return not others or not never_behind(web, event, web, others, ranges, -1)
+def _is_last(web, ranges, event, events):
+    """Whether the EVENT happens behind, or with, all of events, itself among them, in some RUN."""
+    return not never_behind(web, event, web, events, ranges, -1)
 
 
 def surely_last(web, ranges, events):

@@ -225,6 +225,16 @@ class Felt(unittest.TestCase):
         self.assertEqual(told(self, healed, LONE, HOURS, (OUT_X, ("put", "x", "p", "v")), ("v",)), [(0, 1)])
         self.assertEqual(told(self, least_felt, LONE, HOURS, (OUT_X, ("put", "x", "p", "v")), ("v",)), [(0,)])
 
+    def test_ascending(self):
+        web = (("p", "u", "v", "w"), (("t", "p", "u"), *BOTH[1]))
+        hours = (("t", 1, 1), *HOURS)
+        edits = (OUT_X, ("out", "t"), OUT_Z)
+        self.assertEqual(told(self, least_felt, web, hours, edits, ("u", "v")), [(0, 2), (1,)])
+        edits = (("out", "t"), OUT_X, ("put", "x", "p", "v"), ("put", "t", "p", "u"))
+        lone = (web[0], (("t", "p", "u"), *LONE[1]))
+        self.assertEqual(told(self, healed, lone, hours, edits, ("u", "v")), [(0, 1, 2, 3), (0, 3), (1, 2)])
+        self.assertEqual(told(self, least_felt, lone, hours, edits, ("u", "v")), [(0,), (1,)])
+
     def test_by_trying(self):
         healings = 0
         for web, ranges, edits, some in felt_cases(93, 120):
@@ -284,6 +294,8 @@ class Errors(unittest.TestCase):
         for function in (is_felt, least_felt, healed):
             refused(self, NoEvent, {"event": "tide"}, function, LONE, HOURS, (PUT_Z,), ("tide", "v", "wind"))
             refused(self, NoEvent, {"event": "wind"}, function, LONE, HOURS, (), ("v", "wind"))
+            # Also where the EDITS are felt at an EVENT ahead of it.
+            refused(self, NoEvent, {"event": "wind"}, function, LONE, HOURS, (OUT_X,), ("v", "wind"))
 
     def test_names_that_need_no_range(self):
         # Neither the names of outs and moves nor the first names of calls are new ones.
