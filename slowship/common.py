@@ -2,7 +2,7 @@
 
 from heapq import heappop, heappush
 
-from slowship.errors import NoEvent, NoRange
+from slowship.errors import NoArc, NoEvent, NoRange
 
 
 def frozen(value):
@@ -61,6 +61,14 @@ def need_events(web, events):
             raise NoEvent(event)
 
 
+def need_arcs(rows, names):
+    """Raise NoArc for the first of names with which no row begins."""
+    known = {row[0] for row in rows}
+    for name in names:
+        if name not in known:
+            raise NoArc(name)
+
+
 def lows_of(ranges):
     """The low of each name."""
     return {name: low for name, low, _ in ranges}
@@ -74,6 +82,24 @@ def highs_of(ranges):
 def arc_pairs(web):
     """The pairs (ahead, behind) of all ARCS."""
     return [(ahead, behind) for _, ahead, behind in web[1]]
+
+
+def ends_of(web):
+    """The pair (ahead, behind) of each ARC, by its name."""
+    return {name: (ahead, behind) for name, ahead, behind in web[1]}
+
+
+def all_sets(parts):
+    """The ascending list of all sets of these parts, which ascend."""
+    rows = [()]
+    for part in parts:
+        rows = [*rows, *[(*row, part) for row in rows]]
+    return sorted(rows)
+
+
+def fewest_first(rows):
+    """The rows, those with the fewest parts first, of these the least."""
+    return sorted(rows, key=lambda row: (len(row), row))
 
 
 def reached(start, pairs):
@@ -112,6 +138,23 @@ def in_order(web):
             if open_arcs[behind] == 0:
                 heappush(ready, behind)
     return order
+
+
+def ring_in(web):
+    """ARCS that lead from an EVENT back to it, each one to where the next one begins; () if none do."""
+    free = {event: True for event in in_order(web)}
+    back = {arc[2]: arc for arc in web[1] if arc[1] not in free}
+    if not back:
+        return ()
+    # Each EVENT that is not free has one that is not free ahead: so the way back comes to a ring.
+    here = min(back)
+    row = []
+    places = {}
+    while here not in places:
+        places[here] = len(row)
+        row.append(back[here])
+        here = back[here][1]
+    return tuple(row[places[here]:][::-1])
 
 
 def laid_out(web):
@@ -178,3 +221,39 @@ def ways_to(web, event):
 def longer_ways(onward, place, way):
     """The pairs (place, way) of all ways one name longer, the least last: so it is popped first."""
     return [(behind, (*way, name)) for name, behind in reversed(onward[place])]
+
+
+def come_by(arcs, used, start):
+    """For each place that can be reached from start the pair (name, place ahead) by which it is.
+
+    ARCS that are used are taken back against their direction, all others in it.
+    """
+    steps = {}
+    for name, ahead, behind in arcs:
+        here, there = (behind, ahead) if name in used else (ahead, behind)
+        steps.setdefault(here, []).append((name, there))
+    came = {start: None}
+    waiting = [start]
+    while waiting:
+        here = waiting.pop()
+        for name, there in steps.get(here, []):
+            if there not in came:
+                came[there] = (name, here)
+                waiting.append(there)
+    return came
+
+
+def most_apart(arcs, start, goal):
+    """The names of the ARCS of as many rows from start to goal as can be, no ARC in two: keys of a dict."""
+    used = {}
+    came = come_by(arcs, used, start)
+    while goal in came:
+        here = goal
+        while here != start:
+            name, here = came[here]
+            if name in used:
+                del used[name]
+            else:
+                used[name] = True
+        came = come_by(arcs, used, start)
+    return used

@@ -1,6 +1,6 @@
 """Edits [9]: changes of a WEB, and at which EVENTS they are felt."""
 
-from slowship.common import frozen, is_name_row, need_events, need_ranges
+from slowship.common import all_sets, ends_of, frozen, is_name_row, need_events, need_ranges
 from slowship.errors import NoArc, NoEvent, NoRange, Ring, Twice, Unfit
 from slowship.same import alike_at
 from slowship.webs import renamed_arcs, with_arc, without_arc
@@ -31,17 +31,12 @@ def _behind_edit(web, edit):
         return without_arc(web, edit[1])
     if edit[0] == "move":
         return with_arc(without_arc(web, edit[1]), edit[1], edit[2], edit[3])
-    ends = _ends(web)
+    ends = ends_of(web)
     if edit[1] not in ends:
         raise NoArc(edit[1])
     if edit[2] in ends:
         raise Twice(edit[2])
     return renamed_arcs(web, (edit[1:],))
-
-
-def _ends(web):
-    """The pair (ahead, behind) of each ARC, by its name."""
-    return {name: (ahead, behind) for name, ahead, behind in web[1]}
 
 
 def first_refused(web, edits):
@@ -72,7 +67,7 @@ def _taken_back(web, edit):
         return "out", edit[1]
     if edit[0] == "call":
         return "call", edit[2], edit[1]
-    ahead, behind = _ends(web)[edit[1]]
+    ahead, behind = ends_of(web)[edit[1]]
     return "put" if edit[0] == "out" else "move", edit[1], ahead, behind
 
 
@@ -128,19 +123,11 @@ def _felt_places(web, ranges, edits, some):
     """For all places that can be done, ascending: whether these EDITS are felt at some."""
     web, ranges, edits, some = _checked(web, ranges, edits, some)
     felt = {}
-    for places in _all_places(len(edits)):
+    for places in all_sets(list(range(len(edits)))):
         picked = tuple([edits[place] for place in places])
         if first_refused(web, picked) is None:
             felt[places] = _felt_at(web, ranges, picked, some)
     return felt
-
-
-def _all_places(many):
-    """The ascending list of all sets of places below many."""
-    rows = [()]
-    for place in range(many):
-        rows = [*rows, *[(*row, place) for row in rows]]
-    return sorted(rows)
 
 
 def _has_felt_part(felt, places):

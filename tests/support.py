@@ -5,7 +5,10 @@ import inspect
 import itertools
 import random
 
-LISTS = ("longest_ways", "late_ways", "least_felt", "healed")
+LISTS = (
+    "longest_ways", "late_ways", "least_felt", "healed", "pairs_apart", "enough_sets", "neighbours", "all_orders",
+    "unsure_pairs",
+)
 
 DEEP = "a"
 for _ in range(12):
@@ -18,6 +21,9 @@ ODD = [
     (["a", 0],), [("a", 0)], ((0, 0),), (((),),), ((), ("a",)), (("a", "b"), ["x", "a", "b"]), ("a", "b"), ("b", "a"),
     ("a", "a"), ("ab", "cd"), ("out", 3), ("out", ["a"]), ["out", "a"], ("zzzzzzzz",), (("a", 0, 1), ("a", 0, 1)), DEEP,
     [DEEP], (0, ()), (1, ()), (True, ()), (False, ()), (0, []), (2, ("a",)), (-1, ("a",)), (0, "a"),
+    ((), ()), [[], []], (((), ()), ()), (((), ()), []), (((), ()), ("a",)), (((), ()), (("a",),)), ((("a",), ()), ()),
+    (((), ()), (("a", "b", (), "c"),)), (((), ()), (("a", "b", ("a", "a", "a"), "c"),)), ((), (), ()),
+    (("a", ("a",)),), (("a", ()),), (("a", "a"),), ((("a", 0),), ()), (("a",), (("a", ()),)), (("a",), ()),
 ]
 
 
@@ -232,3 +238,60 @@ def small_pairs(seed, many):
         if chance.random() < 0.5:
             other = one[0], tuple(kept)
         yield one, other, some_ranges(chance, "pqrstu", 2)
+
+
+def in_rows(arcs):
+    """Whether the EVENTS of these ARCS can stand in a row: no ARCS lead from one back to it."""
+    ends = [arc[1:] for arc in arcs]
+    while ends:
+        later = [pair for pair in ends if pair[0] in [behind for _, behind in ends]]
+        if len(later) == len(ends):
+            return False
+        ends = later
+    return True
+
+
+def some_harbour(chance, ships, berths, crossing=2):
+    """A HARBOUR in which each ship calls at some berths, with some ARCS between the ships."""
+    events, arcs, stays = {"dawn"}, [], []
+    for at, ship in enumerate(ships):
+        here = "dawn"
+        letter = "abcdefgh"[at]
+        for number, berth in enumerate(chance.sample(berths, chance.randint(1, len(berths)))):
+            one, two, three = [letter + "pqrstuvwxyz"[3 * number + step] for step in range(3)]
+            if number == 0 or chance.random() < 0.3:
+                arcs.append((here, one))
+            else:
+                one = here
+            arcs.extend([(one, two), (two, three)])
+            events.update((one, two, three))
+            stays.append((ship, berth, (one, two, three), f"g{letter}{'abc'[number]}"))
+            here = three
+    free = sorted(events - {"dawn"} - {stay[2][1] for stay in stays})
+    for _ in range(crossing):
+        more = (chance.choice(sorted(events)), chance.choice(free))
+        if in_rows([("", *pair) for pair in [*arcs, more]]):
+            arcs.append(more)
+    named = sorted([(name_at(number), *pair) for number, pair in enumerate(arcs)])
+    return (tuple(sorted(events)), tuple(named)), tuple(sorted(stays))
+
+
+def name_at(number):
+    return "k" + "abcdefghijklmnopqrstuvwxyz"[number // 26] + "abcdefghijklmnopqrstuvwxyz"[number % 26]
+
+
+def plain_orders(harbour):
+    """All ORDERS, standing or not, ascending."""
+    berths = sorted({stay[1] for stay in harbour[1]})
+    rows = [sorted(itertools.permutations([stay[0] for stay in harbour[1] if stay[1] == berth])) for berth in berths]
+    return [tuple(zip(berths, choice)) for choice in itertools.product(*rows)]
+
+
+def plain_told(harbour, orders):
+    """The ARCS of the told WEB, whether the ORDERS stand or not."""
+    at = {(ship, berth): (events, gap) for ship, berth, events, gap in harbour[1]}
+    arcs = list(harbour[0][1])
+    for berth, row in orders:
+        for one, other in zip(row, row[1:]):
+            arcs.append((at[one, berth][1], at[one, berth][0][2], at[other, berth][0][1]))
+    return sorted(arcs)

@@ -4,7 +4,7 @@ import importlib
 import os
 import unittest
 
-FILES = ("webs", "times", "spreads", "order", "same", "edits")
+FILES = ("webs", "times", "spreads", "order", "same", "edits", "lean", "berths", "served", "tugs")
 TEXT = os.path.join(os.path.dirname(os.path.abspath(__file__)), "examples.txt")
 
 
@@ -40,7 +40,7 @@ class Examples(unittest.TestCase):
             asked += 1
             with self.subTest(line):
                 self.assertEqual(reply(line[4:], names), after)
-        self.assertEqual(asked, 31)
+        self.assertEqual(asked, 46)
 
 
 if __name__ == "__main__":

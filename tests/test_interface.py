@@ -28,6 +28,23 @@ ROWS = {
     "edits": """is_edit(thing) edited(web,edits) first_refused(web,edits) edits_back(web,edits) edits_to(one,other)
         is_felt(web,ranges,edits,some) felt_events(web,ranges,edits) least_felt(web,ranges,edits,some)
         healed(web,ranges,edits,some)""",
+    "lean": """decides(web,run,name) needless(web,ranges) deciding_way(web,ranges,name)
+        is_deciding_way(web,ranges,name,thing) can_go(web,ranges,some) held_by(web,ranges,some)
+        needing_run(web,ranges,some) is_needing_run(web,ranges,some,thing) pairs_apart(web,ranges)
+        enough_sets(web,ranges,event) fewest_into(web,ranges,event) lean_web(web,ranges) is_lean(web,ranges)""",
+    "berths": """is_harbour(thing) is_orders(harbour,thing) calls(harbour,ship) neighbours(harbour,orders)
+        stand(harbour,orders) told_web(harbour,orders) a_ring(harbour,orders) is_ring_of(harbour,orders,thing)
+        all_orders(harbour) how_many_orders(harbour) nth_orders(harbour,number) forced(harbour)""",
+    "served": """first_come(harbour,orders,run,some) do_come(harbour,orders,run,some)
+        unsure_pairs(harbour,orders,ranges) must_be_told(harbour,orders,ranges)
+        come_always(harbour,orders,ranges,some) held(harbour,orders,ranges)
+        unsure_way(harbour,orders,ranges,berth,ship) is_unsure_way(harbour,orders,ranges,berth,ship,thing)""",
+    "tugs": """is_tows(web,ranges,thing) turn_late(web,ranges,tows,pause,one,other) sure_turns(web,ranges,tows,pause)
+        fewest_tugs(web,ranges,tows,pause) a_roster(web,ranges,tows,pause) is_roster(web,ranges,tows,pause,thing)
+        a_cover(web,ranges,tows,pause) is_cover(web,ranges,tows,pause,thing)
+        late_turn(web,ranges,tows,pause,one,other) is_late_turn(web,ranges,tows,pause,one,other,thing)
+        fewest_let(web,ranges,tows,pause,number) least_let(web,ranges,tows,pause,number)
+        tugs_in(web,tows,pause,run)""",
 }
 
 
