@@ -17,12 +17,23 @@ class Hunt:
     def __init__(self, one, event, other, events, ranges):
         self.goal = event
         self.marks = events
-        self.rows = laid_out(other)
         self.lows = lows_of(ranges)
         self.highs = highs_of(ranges)
+        self.least = self.least_on(other)
+        self.rows = [row for row in laid_out(other) if row[0] in self.least]
         self.onward = leads_on(one, event)
         self.start = first_place(self.onward, event)
         self.rest = self.most_left(one)
+        self.gain = self.most_gained(one, other)
+
+    def least_on(self, other):
+        """The greatest length, all at low, from each EVENT of other that leads on to a mark."""
+        least = {mark: 0 for mark in self.marks}
+        for event, arcs in reversed(laid_out(other)):
+            if event in least:
+                for name, ahead in arcs:
+                    least[ahead] = max(least.get(ahead, 0), least[event] + self.lows[name])
+        return least
 
     def most_left(self, one):
         """The greatest length from each place on to the goal, all at high."""
@@ -31,6 +42,20 @@ class Hunt:
             rest[place] = max([self.highs[name] + rest[behind] for name, behind in self.onward[place]])
         return rest
 
+    def most_gained(self, one, other):
+        """From each place on by how much more a WAY can grow than the marks are delayed, if they surely are.
+
+        An ARC of both WEBS that is at high delays what is behind it in other as it makes the WAY longer.
+        """
+        arcs = {arc: True for arc in other[1]}
+        shared = {arc[0]: True for arc in one[1] if arc in arcs}
+        gain = {place: self.rest[place] - self.least[place] for place in self.rest if place in self.least}
+        for place in places_back(one, self.onward):
+            steps = self.onward[place]
+            if place in gain and all([name in shared and behind in gain for name, behind in steps]):
+                gain[place] = min(gain[place], max([gain[behind] for _, behind in steps]))
+        return gain
+
     def hope(self, place, way):
         """What the spread of a WAY can be at the most that begins so: at the goal, what it is."""
         lengths = dict(self.lows)
@@ -38,7 +63,8 @@ class Hunt:
             lengths[name] = self.highs[name]
         found = times_by(self.rows, lengths)
         length = sum([self.highs[name] for name in way])
-        return length + self.rest[place] - max([found[event] for event in self.marks])
+        hope = length + self.rest[place] - max([found[event] for event in self.marks])
+        return min(hope, length - found[place] + self.gain[place]) if place in self.gain else hope
 
     def late(self, number, most):
         """The ascending list of the late WAYS for the number; of the least ones, most (None: of all)."""

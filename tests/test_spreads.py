@@ -9,7 +9,10 @@ from slowship.spreads import (
 )
 from slowship.times import slow_run
 from slowship.webs import is_run, without_arc
-from tests.support import all_runs, end_runs, judged, refused, small_cases, small_pairs, spread_in, told, way_spread, ways_in
+from tests.support import (
+    all_runs, end_runs, in_rows, judged, refused, small_cases, small_pairs, some_web, spread_in, told, way_spread,
+    ways_in,
+)
 from tests.test_webs import EMPTY, RANGES, WEB
 
 PLAN = without_arc(WEB, "k")
@@ -89,6 +92,37 @@ class Spreads(unittest.TestCase):
             for event in web[0][:3]:
                 args = (web, event, web, web[0][3:5], ranges)
                 self.assertEqual(greatest_spread(*args), max(way_spreads(*args).values()))
+
+    def test_wide_pairs(self):
+        # Great WEBS that share most of their ARCS: what is dropped on the way is never a greatest one.
+        chance = random.Random(27)
+        names = "klmnopqrst"
+        for web, ranges in small_cases(28, 40, names, "abcdefg"):
+            swapped = [(name, *pair) for name, pair in zip(names, [arc[1:] for arc in some_web(chance, names, web[0])[1]])]
+            arcs = [arc if chance.random() < 0.7 else other for arc, other in zip(web[1], swapped)]
+            other = web[0], tuple(arcs) if in_rows(arcs) else web[1][::2]
+            for one, marks in ((web, other), (other, web)):
+                event, events = chance.choice(web[0]), tuple(sorted(chance.sample(web[0], chance.randint(1, 3))))
+                found = way_spreads(one, event, marks, events, ranges)
+                most = max(found.values())
+                self.assertEqual(greatest_spread(one, event, marks, events, ranges), most)
+                for number in (most, most - 1, most - 3, 0):
+                    late = sorted([way for way in found if found[way] > number])
+                    self.assertEqual(late_ways(one, event, marks, events, ranges, number), late)
+                    self.assertIs(never_behind(one, event, marks, events, ranges, number), late == [])
+
+    def test_very_many_ways(self):
+        # 3 ** 13 WAYS: no listing would end.
+        events = tuple("abcdefghijklmn")
+        arcs = [(f"{sign}{more}", sign, after) for sign, after in zip(events, events[1:]) for more in "xyz"]
+        web = events, tuple(arcs)
+        ranges = tuple([(arc[0], 5 + "xyz".index(arc[0][1]), 9 - "xyz".index(arc[0][1])) for arc in arcs])
+        self.assertEqual(greatest_spread(web, "n", web, ("n",), ranges), 0)
+        self.assertEqual(greatest_spread(web, "n", web, ("k",), ranges), 27)
+        self.assertEqual(least_spread(web, "n", web, ("k",), ranges), 21)
+        self.assertEqual(greatest_spread(web, "n", web, ("a", "h"), ranges), 54)
+        self.assertTrue(never_behind(web, "h", web, ("n",), ranges, -42))
+        self.assertFalse(never_behind(web, "h", web, ("n",), ranges, -43))
 
     def test_greatest_web(self):
         events = tuple("abcdefghijkl")
