@@ -4,7 +4,10 @@ import importlib
 import os
 import unittest
 
-FILES = ("webs", "times", "spreads", "order", "same", "edits", "lean", "berths", "served", "tugs")
+FILES = (
+    "webs", "times", "spreads", "order", "same", "edits", "lean", "berths", "served", "tugs", "cargo", "changes",
+    "delays",
+)
 TEXT = os.path.join(os.path.dirname(os.path.abspath(__file__)), "examples.txt")
 
 
@@ -40,7 +43,7 @@ class Examples(unittest.TestCase):
             asked += 1
             with self.subTest(line):
                 self.assertEqual(reply(line[4:], names), after)
-        self.assertEqual(asked, 46)
+        self.assertEqual(asked, 59)
 
 
 if __name__ == "__main__":

@@ -45,6 +45,22 @@ ROWS = {
         late_turn(web,ranges,tows,pause,one,other) is_late_turn(web,ranges,tows,pause,one,other,thing)
         fewest_let(web,ranges,tows,pause,number) least_let(web,ranges,tows,pause,number)
         tugs_in(web,tows,pause,run)""",
+    "cargo": """is_cargo(web,thing) is_journey(cargo,thing) missed_span(web,ranges,cargo,change)
+        sure_changes(web,ranges,cargo) missed_way(web,ranges,cargo,change)
+        is_missed_way(web,ranges,cargo,change,thing) sure_journeys(web,ranges,cargo,first,last)
+        best_sure(web,ranges,cargo,first,lasts) stuck_paper(web,ranges,cargo,first,last)
+        is_stuck_paper(web,ranges,cargo,first,last,thing)""",
+    "changes": """with_waits(web,ranges,cargo,waits) wait_ring(web,cargo,waits) is_wait_ring(web,cargo,waits,thing)
+        sure_by_waits(web,ranges,cargo,waits) undone_paper(web,ranges,cargo,some,waits)
+        is_undone_paper(web,ranges,cargo,some,waits,thing) all_waits(web,ranges,cargo,some)
+        fewest_waits(web,ranges,cargo,some) journey_waits(web,ranges,cargo,journey)
+        moved_by(web,ranges,cargo,waits,event)""",
+    "delays": """late_times(web,run,lates) late_by(web,run,lates,event) least_late(web,ranges,lates,event)
+        most_late(web,ranges,lates,event) sometimes_late(web,ranges,lates) always_late(web,ranges,lates)
+        late_paper(web,ranges,lates,event,number) early_paper(web,ranges,lates,event,number)
+        is_late_paper(web,ranges,lates,event,number,thing) is_early_paper(web,ranges,lates,event,number,thing)
+        least_lates(web,ranges,lates,event,number) fewest_cut(web,one,other) apart_ways(web,one,other)
+        is_apart_ways(web,one,other,thing)""",
 }
 
 
