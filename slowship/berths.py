@@ -29,7 +29,7 @@ def _is_stay(thing):
 
 def _are_apart(stays):
     """Whether no ship stays twice at a berth, and no EVENT is enters in two, or more than that."""
-    enters = {stay[2][1] for stay in stays}
+    enters = {stay[2][1]: True for stay in stays}
     if len(enters) != len(stays) or len({stay[:2] for stay in stays}) != len(stays):
         return False
     return not any([arrives in enters or clears in enters for _, _, (arrives, _, clears), _ in stays])
@@ -37,9 +37,8 @@ def _are_apart(stays):
 
 def _have_gaps(web, stays):
     """Whether the gaps are unlike, none the name of an ARC."""
-    names = {arc[0] for arc in web[1]}
-    gaps = {stay[3] for stay in stays}
-    return len(gaps) == len(stays) and not any([stay[3] in names for stay in stays])
+    gaps = {stay[3]: True for stay in stays}
+    return len(gaps) == len(stays) and not any([arc[0] in gaps for arc in web[1]])
 
 
 def _have_entries(web, stays):

@@ -79,7 +79,7 @@ def undone_paper(web, ranges, cargo, some, waits):
 def is_undone_paper(web, ranges, cargo, some, waits, thing):
     """Whether thing is such a pair."""
     changed, wide = _checked(web, ranges, cargo, (some, waits), ())
-    if not is_row(thing, 2) or not isinstance(thing[0], str) or thing[0] not in some:
+    if not is_row(thing, 2) or thing[0] not in some:
         return False
     return is_missed_way(changed, wide, cargo, thing[0], thing[1])
 

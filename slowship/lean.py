@@ -1,6 +1,6 @@
 """Waits that are not needed [10]: ARCS without which each EVENT happens when it did, FOR ALL RUNS."""
 
-from slowship.common import all_sets, ends_of, fewest_first, frozen, need_arcs, need_events, need_ranges
+from slowship.common import all_sets, ends_of, fewest_first, frozen, need_arcs, need_ranges
 from slowship.spreads import late_way
 from slowship.times import slow_run, time_of, times
 from slowship.webs import arcs_into, is_run, is_way, without_arc
@@ -18,7 +18,6 @@ def decides(web, run, name):
 def needless(web, ranges):
     """The set of the ARCS each of which can go by itself."""
     web, ranges = frozen(web), frozen(ranges)
-    need_ranges(ranges, (web,))
     return tuple([arc[0] for arc in web[1] if can_go(web, ranges, (arc[0],))])
 
 
@@ -100,7 +99,6 @@ def enough_sets(web, ranges, event):
     """The ascending list of all sets of ARCS into the EVENT that are enough."""
     web, ranges = frozen(web), frozen(ranges)
     need_ranges(ranges, (web,))
-    need_events(web, (event,))
     into = arcs_into(web, event)
     return [kept for kept in all_sets(into) if _is_enough(web, ranges, into, kept)]
 
@@ -114,7 +112,6 @@ def fewest_into(web, ranges, event):
     """The least of the sets of the fewest ARCS into the EVENT that are enough."""
     web, ranges = frozen(web), frozen(ranges)
     need_ranges(ranges, (web,))
-    need_events(web, (event,))
     into = arcs_into(web, event)
     for kept in fewest_first(all_sets(into)):
         if _is_enough(web, ranges, into, kept):
@@ -125,7 +122,6 @@ def fewest_into(web, ranges, event):
 def lean_web(web, ranges):
     """The WEB with just the ARCS that fewest_into tells for each EVENT."""
     web, ranges = frozen(web), frozen(ranges)
-    need_ranges(ranges, (web,))
     kept = {name: True for event in web[0] for name in fewest_into(web, ranges, event)}
     return web[0], tuple([arc for arc in web[1] if arc[0] in kept])
 

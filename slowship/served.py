@@ -12,31 +12,27 @@ def first_come(harbour, orders, run, some):
     told_web(harbour, orders)
     rows = {berth: row if berth in some else () for berth, row in orders}
     lengths = dict(run)
-    while True:
-        found = times_by(laid_out(_let_so_far(harbour, rows)), lengths)
-        coming = _next_to_come(harbour, orders, rows, found)
-        if coming is None:
-            break
+    found = _times_so_far(harbour, rows, lengths)
+    coming = _next_to_come(harbour, orders, rows, found)
+    while coming is not None:
         rows[coming[2]] = (*rows[coming[2]], coming[3])
+        found = _times_so_far(harbour, rows, lengths)
+        coming = _next_to_come(harbour, orders, rows, found)
     if len(found) < len(harbour[0][0]):
         return None
     return tuple(list(rows.items())), tuple([(event, found[event]) for event in harbour[0][0]])
 
 
-def _let_so_far(harbour, rows):
-    """The WEB told by these rows, in which a STAY that is in none of them waits for itself.
-
-    So its EVENT enters, and all that waits for it, has no time as yet.
-    """
-    events, arcs = web_told(harbour, list(rows.items()))
-    waits = [(stay[3], stay[2][1], stay[2][1]) for stay in harbour[1] if stay[0] not in rows[stay[1]]]
-    return events, (*arcs, *waits)
+def _times_so_far(harbour, rows, lengths):
+    """The time of each EVENT if only ships in these rows wait for each other; none for what can never happen."""
+    return times_by(laid_out(web_told(harbour, list(rows.items()))), lengths)
 
 
 def _next_to_come(harbour, orders, rows, found):
     """The least (time, place, berth, ship) of the ships in no row that arrive; None if there is none.
 
-    An EVENT without a time as yet comes behind an enters, so later than this: nobody comes ahead.
+    Others in no row can still be held up, but by nobody who comes later than they do. So this one is
+    not: who would hold it up has come in ahead of it, and takes some time from there.
     """
     stays = stays_at(harbour)
     coming = []

@@ -106,6 +106,7 @@ class Harbours(unittest.TestCase):
         yield (("anna", "east", ("dawn", "aa", "ab"), "ga"), ("bess", "east", ("aa", "ab", "ac"), "gb"))
         yield (("anna", "east", ("aa", "ab", "ad"), "ga"), ("bess", "east", ("ac", "ad", "ae"), "gb"))
         yield (("anna", "east", ("aa", "ab", "ac"), "ga"), ("bess", "east", ("ab", "ac", "ae"), "gb"))
+        yield (("anna", "east", ("aa", "ab", "ad"), "ga"), ("bess", "east", ("ab", "ac", "ae"), "gb"))
 
     def test_bad(self):
         for stays in self.bad_stays():
@@ -242,6 +243,13 @@ class AllOrders(unittest.TestCase):
             ahead = [{(berth, *pair) for berth, row in orders for pair in itertools.combinations(row, 2)}
                      for orders in good]
             self.assertEqual(told(self, forced, harbour), tuple(sorted(set.intersection(*ahead))) if ahead else ())
+
+    def test_forced_ascends(self):
+        web, stays = many_ships(3, ["quay"])
+        web = with_arc(with_arc(web, "za", "cr", "ap"), "zb", "ar", "bp")
+        rows = (("quay", "a", "b"), ("quay", "c", "a"), ("quay", "c", "b"))
+        self.assertEqual(told(self, forced, (web, stays)), rows)
+        self.assertEqual(told(self, all_orders, (web, stays)), [(("quay", ("c", "a", "b")),)])
 
     def test_three_at_three_berths(self):
         harbour = many_ships(3, ["east", "north", "west"])

@@ -180,6 +180,18 @@ class Journeys(unittest.TestCase):
         self.assertIs(told(self, stuck_paper, WEB, RANGES, CARGO, "ox", "ox"), None)
         self.assertEqual(told(self, stuck_paper, WEB, RANGES, NONE, "ox", "yak"), (("ox",), ()))
 
+    def test_back_again(self):
+        # Sure CHANGES lead back to the first ship: it is among the ships once.
+        events = tuple(sorted([one + two for one in "abc" for two in "cg"]))
+        rides = tuple([("s" + one, one + "g", one + "c") for one in "abc"])
+        cargo = (rides, (("v", "sa", "sb", 0), ("w", "sb", "sa", 0), ("x", "sb", "sc", 1), ("y", "sc", "sa", 0)))
+        paper = (("sa", "sb"), (("x", ()),))
+        self.assertEqual(told(self, stuck_paper, (events, ()), (), cargo, "sa", "sc"), paper)
+        self.assertEqual(told(self, stuck_paper, (events, ()), (), cargo, "sb", "sc"), paper)
+        self.assertIs(told(self, stuck_paper, (events, ()), (), cargo, "sc", "sb"), None)
+        self.assertEqual(told(self, sure_journeys, (events, ()), (), cargo, "sc", "sb"), [("sc", "sa", "sb")])
+        self.assertEqual(told(self, sure_journeys, (events, ()), (), cargo, "sa", "sa"), [("sa",)])
+
     def test_same_time(self):
         # Both last ships come at one time: the fewest ships decide, then the least journey.
         events = tuple(sorted([one + two for one in "abcd" for two in "cg"]))

@@ -247,7 +247,8 @@ class Cuts(unittest.TestCase):
 
     def test_judged(self):
         bad = [(("p", "q"),), (("r",),), (("r",), ("r",)), (("p", "q"), ("r",), ()), (), (("p",), ("r",)), (("q", "p"), ("r",)),
-               (("p", "q"), ("r",), ("r",)), (("p", "q", "r"),), (("p", "q"), ("zz",)), (("p", "q"), ())]
+               (("p", "q"), ("r",), ("r",)), (("p", "q", "r"),), (("p", "q"), ("zz",)), (("p", "q"), ()),
+               (("p", "zz"), ("r",)), (("zz", "q"), ("r",))]
         good = [(("p", "q"), ("r",)), (("r",), ("p", "q"))]
         judged(self, is_apart_ways, (WEB, "a", "c"), good, bad)
         judged(self, is_apart_ways, (WEB, "c", "a"), [()], [((),), *good, *bad[:2]])

@@ -130,6 +130,11 @@ class Going(unittest.TestCase):
         self.assertEqual(told(self, pairs_apart, BOTH, HOURS), [("x", "z")])
         self.assertEqual(told(self, needing_run, BOTH, HOURS, ("x", "z")), (("x", 2), ("y", 1), ("z", 1)))
         self.assertIs(told(self, needing_run, BOTH, HOURS, ("z",)), None)
+        # Only if sailing takes long, too, the crane is behind the tide.
+        near = (("crane", 1, 3), ("sail", 0, 9), ("tide", 9, 9))
+        run = told(self, needing_run, PLAN, near, ("crane",))
+        self.assertTrue(is_needed(PLAN, run, ("crane",)))
+        self.assertIs(told(self, needing_run, PLAN, (("crane", 1, 3), ("sail", 0, 6), ("tide", 9, 9)), ("crane",)), None)
 
     def test_edges(self):
         for web, ranges in ((EMPTY, ()), (PLAN, RANGES), (FORK, STILL)):

@@ -111,6 +111,17 @@ class Spreads(unittest.TestCase):
                     self.assertEqual(late_ways(one, event, marks, events, ranges, number), late)
                     self.assertIs(never_behind(one, event, marks, events, ranges, number), late == [])
 
+    def test_one_of_two_branches(self):
+        # Behind v one branch delays m as it makes the WAY longer, the other one does not.
+        web = (("g", "m", "s", "v", "wa", "wb"),
+               (("a", "s", "g"), ("b", "s", "v"), ("c", "v", "wa"), ("d", "v", "wb"), ("e", "wa", "g"), ("f", "wb", "g"),
+                ("h", "wa", "m"), ("k", "wb", "m")))
+        ranges = (("a", 0, 5), ("b", 0, 0), ("c", 0, 9), ("d", 0, 0), ("e", 0, 0), ("f", 0, 10), ("h", 0, 0), ("k", 0, 0))
+        self.assertEqual(greatest_spread(web, "g", web, ("m",), ranges), 10)
+        self.assertEqual(late_ways(web, "g", web, ("m",), ranges, 5), [("b", "d", "f")])
+        self.assertEqual(late_ways(web, "g", web, ("m",), ranges, -1), [("a",), ("b", "c", "e"), ("b", "d", "f")])
+        self.assertIs(never_behind(web, "g", web, ("m",), ranges, 9), False)
+
     def test_very_many_ways(self):
         # 3 ** 13 WAYS: no listing would end.
         events = tuple("abcdefghijklmn")
