@@ -61,6 +61,25 @@ ROWS = {
         is_late_paper(web,ranges,lates,event,number,thing) is_early_paper(web,ranges,lates,event,number,thing)
         least_lates(web,ranges,lates,event,number) fewest_cut(web,one,other) apart_ways(web,one,other)
         is_apart_ways(web,one,other,thing)""",
+    "air": """air(web,run,one,other) least_air(web,ranges,one,other) greatest_air(web,ranges,one,other)
+        tight_paper(web,ranges,one,other,number) loose_paper(web,ranges,one,other,number)
+        is_tight_paper(web,ranges,one,other,number,thing) is_loose_paper(web,ranges,one,other,number,thing)
+        always_tight(web,ranges) never_tight(web,ranges) safe_hours(web,ranges,one,some)
+        plan_times(web,run,plan,lates) behind_plan(web,ranges,plan,lates) moved_plan(web,ranges,plan,lates)
+        must_move(web,ranges,plan,lates) greatest_kept(web,ranges,plan,one)""",
+    "days": """is_daily(thing) played(daily,runs) late_days(daily,runs) air_of(daily,ranges,name)
+        short_arcs(daily,ranges) laps(daily) lap_air(daily,ranges,lap) worst_lap(daily,ranges)
+        is_bad_lap(daily,ranges,thing) is_kept(daily,ranges) least_period(daily,ranges)
+        most_behind(daily,ranges,event)""",
+    "daily": """delayed(daily,delay,runs) late_on(daily,ranges,delay,day) dies_out(daily,ranges,event)
+        airless_lap(daily,ranges,event) is_airless_lap(daily,ranges,event,thing) days_late(daily,ranges,delay)
+        most_borne(daily,ranges,event,some) days_web(daily,ranges,many) spans(daily,ranges)
+        day_spread(daily,ranges,one,other,on)""",
+    "rules": """is_rule(web,event,thing) told_by(web,run,rule) is_safe(web,ranges,event,rule)
+        is_tight(web,ranges,event,rule) is_right(web,ranges,event,rule) most_early(web,ranges,event,rule)
+        early_way(web,ranges,event,rule) is_early_way(web,ranges,event,rule,thing)
+        least_number(web,ranges,event,rule,seen) spare_seen(web,ranges,event,rule)
+        tight_rule(web,ranges,event,some) right_rule(web,ranges,event,some) fewest_seen(web,ranges,event,some)""",
 }
 
 
