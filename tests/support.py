@@ -7,7 +7,7 @@ import random
 
 LISTS = (
     "longest_ways", "late_ways", "least_felt", "healed", "pairs_apart", "enough_sets", "neighbours", "all_orders",
-    "unsure_pairs", "sure_journeys", "all_waits", "played", "late_days", "laps", "delayed",
+    "unsure_pairs", "sure_journeys", "all_waits", "played", "late_days", "laps", "delayed", "replies",
 )
 
 DEEP = "a"

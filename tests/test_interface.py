@@ -1,7 +1,9 @@
 """The interface: each name, with its arguments, is defined in its file."""
 
+import ast
 import importlib
 import inspect
+import os
 import unittest
 
 ROWS = {
@@ -80,7 +82,20 @@ ROWS = {
         early_way(web,ranges,event,rule) is_early_way(web,ranges,event,rule,thing)
         least_number(web,ranges,event,rule,seen) spare_seen(web,ranges,event,rule)
         tight_rule(web,ranges,event,some) right_rule(web,ranges,event,some) fewest_seen(web,ranges,event,some)""",
+    "judge": """stands(promise) paper(promise) is_paper(promise,thing) with_high(promise,name,high)
+        most_high(promise,name,top) in_run(promise,run) to_blame(promise)""",
+    "texts": """number_text(number) number_in(text) names_text(names) names_in(text) set_in(text) web_text(web)
+        ranges_text(ranges) pairs_text(pairs) web_in(text) ranges_in(text) pairs_in(text) is_sheet(thing)
+        sheet_text(sheet) sheet_in(text) with_line(sheet,line) without_line(sheet,name) unlike_lines(one,other)""",
+    "desk": """is_request(thing) replies(text)""",
 }
+BOARD = """__init__(self) __len__(self) __eq__(self,other) web(self) ranges(self) range_of(self,name) between(self,event)
+    spread(self,event,events) sure(self,one,other) come(self,event) wait(self,name,ahead,behind,low,high)
+    slack(self,name,low,high) told(self,name,length) drop(self,name) go(self,event) undo(self) deeds(self)
+    twin(self)"""
+ORDER = """errors webs times spreads order same edits lean berths served tugs cargo changes delays air days daily rules
+    judge texts board desk""".split()
+PACKAGE = os.path.join(os.path.dirname(os.path.dirname(os.path.abspath(__file__))), "slowship")
 
 
 class Interface(unittest.TestCase):
@@ -94,6 +109,25 @@ class Interface(unittest.TestCase):
                     self.assertTrue(inspect.isfunction(function))
                     self.assertEqual(function.__module__, f"slowship.{file}")
                     self.check_arguments(function, args.split(","))
+
+    def test_board(self):
+        module = importlib.import_module("slowship.board")
+        self.assertEqual(module.Board.__bases__, (object,))
+        self.assertEqual(module.Board.__module__, "slowship.board")
+        for row in BOARD.split():
+            name, args = row[:-1].split("(")
+            with self.subTest(row):
+                # In the class itself, not only in a base class.
+                self.assertTrue(inspect.isfunction(vars(module.Board)[name]))
+                self.check_arguments(vars(module.Board)[name], args.split(","))
+
+    def test_each_file_needs_only_those_ahead_of_it(self):
+        for at, name in enumerate(ORDER):
+            with open(os.path.join(PACKAGE, name + ".py"), encoding="utf-8") as file:
+                tree = ast.parse(file.read())
+            needs = {node.module.split(".")[1] for node in tree.body
+                     if isinstance(node, ast.ImportFrom) and node.module.startswith("slowship.")}
+            self.assertEqual(needs - set(ORDER[:at]) - {"common"}, set(), name)
 
     def check_arguments(self, function, names):
         found = list(inspect.signature(function).parameters.values())

@@ -148,7 +148,7 @@ class Language(unittest.TestCase):
             known = {ast.Name: "id", ast.arg: "arg"}.get(node.__class__, "name")
             word = getattr(node, known)
             self.assertNotIn(word, BARRED, place)
-            self.assertFalse(word.startswith("__") and word != "__init__", place)
+            self.assertFalse(word.startswith("__") and word not in ("__init__", "__eq__", "__len__"), place)
             if word in outer:
                 self.assertIn(word, BUILTINS, place)
                 self.assertIsInstance(node, ast.Name, place)
