@@ -266,6 +266,15 @@ class Asked(unittest.TestCase):
         self.assertTrue(one != other)
         self.assertFalse(one == other)
         other.slack("load", 3, 9)
+        # The same RANGES, but other EVENTS, or other ends of an ARC.
+        lone, turned = Board(), harbour()
+        lone.come("dock")
+        self.assertFalse(lone == Board())
+        self.assertTrue(lone != Board())
+        turned.drop("load")
+        turned.wait("load", "sail", "dock", 3, 9)
+        self.assertEqual(turned.ranges(), one.ranges())
+        self.assertFalse(turned == one)
         # Made by other deeds, more of them.
         self.assertTrue(one == other)
         self.assertFalse(one != other)

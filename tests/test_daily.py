@@ -347,6 +347,8 @@ class Wrong(unittest.TestCase):
                 refused(self, NoRange, kept, is_airless_lap, LINE, ranges, "none", thing)
 
     def test_no_event(self):
+        for runs in ((), ((("back", 10), ("work", 25)),)):
+            refused(self, NoEvent, {"event": "work"}, delayed, LINE, ("work", 3), runs)
         for ranges in (CALM, SLOW):
             kept = {"event": "work"}
             refused(self, NoEvent, kept, late_on, LINE, ranges, ("work", 3), 1)

@@ -102,6 +102,7 @@ class Dailies(unittest.TestCase):
                (60, (("a", 0),), (("x", "a", "a", 0),)), (60, pairs, (arcs[0], ("back", "tie", "load", 0))), (60, pairs),
                (60, pairs, arcs, ()), (60, pairs, (("back", "load", "tie"),)), (60, (("load", 30, 0), ("tie", 0)), ()),
                (60, pairs, (("back", "load", "tie", 1, 0),)), (60, ("load", "tie"), ()), (60, pairs, ("back",))]
+        bad.extend([(60, pairs, (("back", *ends, days),)) for days in (0, 1) for ends in (("load", "zz"), ("zz", "load"), ("zz", "zz"))])
         judged(self, is_daily, (), [LINE, NONE, STILL, SELF, (1, pairs, ()), (1, (("a", 0),), (("a", "a", "a", 1),))], bad)
         self.assertIs(told(self, is_daily, (GREAT, (("a", GREAT),), (("x", "a", "a", GREAT),))), True)
 
@@ -286,6 +287,10 @@ class Kept(unittest.TestCase):
 
 
 class Wrong(unittest.TestCase):
+    def test_runs_that_lack_a_name(self):
+        for function in (played, late_days):
+            refused(self, NoRange, {"name": "work"}, function, LINE, (RUNS[0], RUNS[1][:1]))
+
     def test_no_range(self):
         for ranges, kept in ((FAST[1:], "back"), (FAST[:1], "work"), ((), "back")):
             kept = {"name": kept}

@@ -180,6 +180,35 @@ class Language(unittest.TestCase):
             if node.func.id in KEPT_ONCE:
                 self.assertNotIsInstance(node.above, (ast.Assign, ast.Return, ast.keyword), place)
 
+    def test_stars(self):
+        for place, node in self.nodes(ast.Call):
+            for part in node.args:
+                if isinstance(part, ast.Starred):
+                    self.assertIsInstance(part.value, ast.Name, place)
+                    self.assertTrue(all(isinstance(one, (ast.Name, ast.Constant, ast.Starred)) for one in node.args), place)
+            self.assertTrue(all(keyword.arg for keyword in node.keywords), place)
+
+    def test_classes(self):
+        attributes = {node.attr for _, node in self.nodes(ast.Attribute) if isinstance(node.ctx, ast.Store)}
+        methods = set()
+        for place, node in self.nodes(ast.ClassDef):
+            self.assertTrue(all(isinstance(part, (ast.FunctionDef, ast.Expr)) for part in node.body), place)
+            methods |= {part.name for part in node.body if isinstance(part, ast.FunctionDef)}
+        self.assertEqual(attributes & methods, set())
+        self.assertEqual((attributes | methods) & (METHODS | BUILTINS | BARRED), {"__init__"})
+        for place, node in self.nodes(ast.Attribute):
+            self.assertIn(node.attr, attributes | methods | METHODS, place)
+
+    def test_handlers(self):
+        errors = {node.name for node in self.trees["errors.py"].body if isinstance(node, ast.ClassDef)}
+        for place, node in self.nodes(ast.FunctionDef):
+            handlers = [part for part in ast.walk(node) if isinstance(part, ast.ExceptHandler)]
+            kept = [part.name for part in handlers if part.name]
+            self.assertEqual(len(kept), len(set(kept)), place)
+            for handler in handlers:
+                caught = handler.type.elts if isinstance(handler.type, ast.Tuple) else [handler.type]
+                self.assertTrue({one.id for one in caught} <= errors, place)
+
     def test_sets(self):
         for place, node in self.nodes(ast.Call, ast.SetComp, ast.Set):
             if not is_set(node):
